@@ -1,0 +1,106 @@
+"""The package keeps to the part of Python that it is written in, as far as a reading can tell."""
+
+import ast
+import builtins
+import pathlib
+import re
+import unittest
+
+PACKAGE = pathlib.Path(__file__).resolve().parent.parent / "unlikesteps"
+FILES = sorted(PACKAGE.glob("*.py"))
+
+OWN_NAMES = set(
+    "len range enumerate zip min max sum abs sorted reversed int str bool bytes list tuple dict set frozenset "
+    "isinstance ord repr any all divmod Exception ValueError TypeError KeyError IndexError LookupError "
+    "ZeroDivisionError ArithmeticError OverflowError RuntimeError NotImplementedError AttributeError "
+    "StopIteration".split()
+)
+WORDS = re.compile(
+    r"\b(type|typing|typing_extensions|enum|Enum|IntEnum|StrEnum|Flag|IntFlag|Generic|Protocol|ABC|ABCMeta|"
+    r"namedtuple|NamedTuple|TypedDict|TYPE_CHECKING|abstractmethod)\b|dataclass|overload|contextmanager"
+)
+NOT_LET = (
+    ast.With, ast.Match, ast.Global, ast.Nonlocal, ast.Yield, ast.YieldFrom, ast.AsyncFunctionDef, ast.AsyncFor,
+    ast.AsyncWith, ast.Await, ast.GeneratorExp, ast.NamedExpr, ast.Div, ast.Import, ast.MatMult,
+)
+TOP = (ast.Expr, ast.ImportFrom, ast.FunctionDef, ast.ClassDef, ast.Assign)
+
+
+def names_of(node):
+    if isinstance(node, ast.Name):
+        return [node.id]
+    if isinstance(node, ast.arg):
+        return [node.arg]
+    if isinstance(node, (ast.FunctionDef, ast.ClassDef)):
+        return [node.name]
+    if isinstance(node, ast.Attribute):
+        return [node.attr]
+    return []
+
+
+class LanguageTest(unittest.TestCase):
+    def each_node(self):
+        for file in FILES:
+            for node in ast.walk(ast.parse(file.read_text("ascii"))):
+                yield file.name, node
+
+    def test_only_plain_files(self):
+        self.assertIn(PACKAGE / "__init__.py", FILES)
+        for path in PACKAGE.iterdir():
+            if path.name != "__pycache__":
+                self.assertRegex(path.name, r"^[a-z0-9_]+\.py$")
+
+    def test_signs_words_and_sizes(self):
+        for file in FILES:
+            rows = file.read_text("ascii").split("\n")
+            self.assertLessEqual(len(rows), 400, file.name)
+            for row in rows:
+                self.assertLessEqual(len(row), 120, (file.name, row))
+                self.assertRegex(row, r"^[ -~]*$", file.name)
+                self.assertIsNone(WORDS.search(row), (file.name, row))
+
+    def test_top_of_each_file(self):
+        for file in FILES:
+            tree = ast.parse(file.read_text("ascii"))
+            self.assertIsNotNone(ast.get_docstring(tree), file.name)
+            for node in tree.body:
+                self.assertIsInstance(node, TOP, (file.name, node.lineno))
+
+    def test_imports(self):
+        for name, node in self.each_node():
+            if isinstance(node, ast.ImportFrom):
+                self.assertEqual(node.level, 0, (name, node.lineno))
+                self.assertTrue(node.module.startswith("unlikesteps."), (name, node.lineno))
+                self.assertTrue(all(part.name != "*" for part in node.names), (name, node.lineno))
+
+    def test_nothing_that_is_not_let(self):
+        for name, node in self.each_node():
+            self.assertNotIsInstance(node, NOT_LET, (name, getattr(node, "lineno", 0)))
+            if isinstance(node, ast.Constant):
+                self.assertNotIsInstance(node.value, (float, complex), (name, node.lineno))
+                self.assertFalse(isinstance(node.value, str) and "%" in node.value, (name, node.lineno))
+            if isinstance(node, (ast.For, ast.While)):
+                self.assertEqual(node.orelse, [], (name, node.lineno))
+
+    def test_functions(self):
+        for name, node in self.each_node():
+            if isinstance(node, ast.FunctionDef):
+                self.assertLessEqual(node.end_lineno - node.lineno + 1, 40, (name, node.name))
+                self.assertEqual(node.decorator_list, [], (name, node.name))
+                given = node.args
+                self.assertFalse(given.vararg or given.kwarg or given.posonlyargs, (name, node.name))
+
+    def test_names(self):
+        built_in = set(dir(builtins))
+        for name, node in self.each_node():
+            for word in names_of(node):
+                self.assertRegex(word, r"^([A-Za-z][A-Za-z0-9_]*|__init__)$", (name, word))
+            if isinstance(node, ast.Name) and node.id in built_in:
+                self.assertIn(node.id, OWN_NAMES, (name, node.lineno))
+                self.assertIsInstance(node.ctx, ast.Load, (name, node.lineno))
+            if isinstance(node, ast.arg):
+                self.assertNotIn(node.arg, built_in, (name, node.lineno))
+
+
+if __name__ == "__main__":
+    unittest.main()

@@ -1,0 +1,1 @@
+"""Points on boards, no two steps between them alike."""
