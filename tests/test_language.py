@@ -38,6 +38,17 @@ def names_of(node):
     return []
 
 
+def drawn_files(tree):
+    """The modules that a file draws names from."""
+    return [node.module for node in tree.body if isinstance(node, ast.ImportFrom)]
+
+
+def names_of_the_top(tree):
+    """The classes and the drawn names of a file, those that no local may be called like."""
+    classes = [node.name for node in tree.body if isinstance(node, ast.ClassDef)]
+    return classes + [part.name for node in tree.body if isinstance(node, ast.ImportFrom) for part in node.names]
+
+
 class LanguageTest(unittest.TestCase):
     def each_node(self):
         for file in FILES:
@@ -72,6 +83,40 @@ class LanguageTest(unittest.TestCase):
                 self.assertEqual(node.level, 0, (name, node.lineno))
                 self.assertTrue(node.module.startswith("unlikesteps."), (name, node.lineno))
                 self.assertTrue(all(part.name != "*" for part in node.names), (name, node.lineno))
+
+    def test_names_are_drawn_from_where_they_are_defined(self):
+        trees = {f"unlikesteps.{file.stem}": ast.parse(file.read_text("ascii")) for file in FILES}
+        for tree in trees.values():
+            for node in tree.body:
+                if isinstance(node, ast.ImportFrom):
+                    tops = trees[node.module].body
+                    tops = tops + [target for top in tops if isinstance(top, ast.Assign) for target in top.targets]
+                    defined = [name for top in tops for name in names_of(top)]
+                    for part in node.names:
+                        self.assertIn(part.name, defined, node.module)
+
+    def test_no_two_files_draw_from_one_another(self):
+        drawn = {f"unlikesteps.{file.stem}": drawn_files(ast.parse(file.read_text("ascii"))) for file in FILES}
+        while drawn:
+            free = [name for name in drawn if not any(other in drawn for other in drawn[name])]
+            self.assertNotEqual(free, [], sorted(drawn))
+            drawn = {name: drawn[name] for name in drawn if name not in free}
+
+    def test_locals_hide_no_class_and_no_drawn_name(self):
+        for file in FILES:
+            tree = ast.parse(file.read_text("ascii"))
+            kept = names_of_the_top(tree)
+            self.assertEqual(len(set(kept)), len(kept), file.name)
+            for node in ast.walk(tree):
+                if isinstance(node, ast.arg) or isinstance(node, ast.Name) and isinstance(node.ctx, ast.Store):
+                    self.assertNotIn(names_of(node)[0], kept, (file.name, node.lineno))
+
+    def test_is_stands_beside_none_and_truths(self):
+        for name, node in self.each_node():
+            if isinstance(node, ast.Compare):
+                for sign, thing in zip(node.ops, node.comparators):
+                    if isinstance(sign, (ast.Is, ast.IsNot)):
+                        self.assertIn(ast.unparse(thing), ("None", "True", "False"), (name, node.lineno))
 
     def test_nothing_that_is_not_let(self):
         for name, node in self.each_node():

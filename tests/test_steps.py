@@ -1,45 +1,12 @@
 """The steps of a lay: promises 4, 5, 6, 12 and 13."""
 
 import unittest
-from itertools import combinations, permutations
 
-from tests.things import ODD_THINGS, SMALL_BOARDS, all_lays
+from tests.things import NO_BOARDS, NO_LAYS, WIDE_LAY, like_tuples, pairs_of, some_lays
 from unlikesteps.errors import NoBoard, NoLay
 from unlikesteps.steps import first_like, is_unlike, steps, ups
 
 TOLD = (steps, is_unlike, first_like, ups)
-WIDE_LAY = ((5, 7), (6, None, 0, 3, None))
-
-
-def pairs_of(lay):
-    """Each two lines with points, with the step between them."""
-    lines = [line for line, row in enumerate(lay) if row is not None]
-    return [((other - line, lay[other] - lay[line]), line, other) for line, other in combinations(lines, 2)]
-
-
-def like_tuples(lay):
-    """All tuples (line, other, here, there) of two like steps."""
-    found = []
-    for step, line, other in pairs_of(lay):
-        for also, here, there in pairs_of(lay):
-            if step == also and (line, other) < (here, there):
-                found.append((line, other, here, there))
-    return found
-
-
-def some_lays():
-    """All lays of small boards, and full ones of greater boards."""
-    for board in SMALL_BOARDS:
-        for lay in all_lays(board):
-            yield board, lay
-    for wide in (5, 6):
-        for lay in permutations(range(wide)):
-            yield (wide, wide), lay
-    yield WIDE_LAY
-    yield (12, 12), tuple(range(12))
-    yield (12, 12), tuple((5 * line) % 12 for line in range(12))
-    yield (12, 1), (None,) * 11 + (0,)
-    yield (1, 12), (11,)
 
 
 class StepsTest(unittest.TestCase):
@@ -162,17 +129,14 @@ class KeptTest(unittest.TestCase):
 
 class RefusalTest(unittest.TestCase):
     def test_no_board(self):
-        for thing in ODD_THINGS + [(0, 3), (3, 0), (13, 3), (3, 13), (3, True), (3, None), [3, 3], (3, 3, 3)]:
+        for thing in NO_BOARDS:
             for lay in ((0, 2, 1), (None,) * 3, "ab", None, [0, 2, 1]):
                 for told in TOLD:
                     with self.assertRaises(NoBoard, msg=(told, thing, lay)):
                         told(thing, lay)
 
     def test_no_lay(self):
-        for thing in ODD_THINGS + [
-            (0, 1), (0, 1, 2, 3), (0, 1, 4), (0, 1, -1), (0, 1, 1), (0, 2, True), (False, 2, 1), (0, 2, "1"),
-            (0, 2, [1]), (0, 2, {}), [0, 2, 1], {0: 0, 1: 2, 2: 1},
-        ]:
+        for thing in NO_LAYS:
             for told in TOLD:
                 with self.assertRaises(NoLay, msg=(told, thing)):
                     told((3, 4), thing)

@@ -1,6 +1,8 @@
-"""Things that several tests hand in."""
+"""Things that several tests hand in or reckon by."""
 
-from itertools import product
+import unittest
+from functools import cache
+from itertools import combinations, permutations, product
 
 
 def nest(depth):
@@ -19,7 +21,21 @@ ODD_THINGS = [
     1.0, b"ab", {1, 2}, object(), int, len,
 ]
 
+NO_BOARDS = ODD_THINGS + [(0, 3), (3, 0), (13, 3), (3, 13), (3, True), (3, None), [3, 3], (3, 3, 3)]
+
+# None of these is a lay of the board (3, 4).
+NO_LAYS = ODD_THINGS + [
+    (0, 1), (0, 1, 2, 3), (0, 1, 4), (0, 1, -1), (0, 1, 1), (0, 2, True), (False, 2, 1), (0, 2, "1"),
+    (0, 2, [1]), (0, 2, {}), [0, 2, 1], {0: 0, 1: 2, 2: 1},
+]
+
+# None of these is a whole number.
+NO_NUMBERS = [
+    None, True, False, "", "0", "1", (), (0,), [], [1], {}, {0: 1}, 0.0, 1.0, b"1", nest(40), object(), int, len,
+]
+
 SMALL_BOARDS = list(product(range(1, 5), range(1, 5)))
+WIDE_LAY = ((5, 7), (6, None, 0, 3, None))
 
 
 def all_lays(board):
@@ -31,3 +47,67 @@ def all_lays(board):
         if all(kept.count(row) == 1 for row in kept):
             found.append(rows)
     return found
+
+
+def pairs_of(lay):
+    """Each two lines with points, with the step between them."""
+    lines = [line for line, row in enumerate(lay) if row is not None]
+    return [((other - line, lay[other] - lay[line]), line, other) for line, other in combinations(lines, 2)]
+
+
+def like_tuples(lay):
+    """All tuples (line, other, here, there) of two like steps."""
+    found = []
+    for step, line, other in pairs_of(lay):
+        for also, here, there in pairs_of(lay):
+            if step == also and (line, other) < (here, there):
+                found.append((line, other, here, there))
+    return found
+
+
+def some_lays():
+    """All lays of small boards, and full ones of greater boards."""
+    for board in SMALL_BOARDS:
+        for lay in all_lays(board):
+            yield board, lay
+    for wide in (5, 6):
+        for lay in permutations(range(wide)):
+            yield (wide, wide), lay
+    yield WIDE_LAY
+    yield (12, 12), tuple(range(12))
+    yield (12, 12), tuple((5 * line) % 12 for line in range(12))
+    yield (12, 1), (None,) * 11 + (0,)
+    yield (1, 12), (11,)
+
+
+@cache
+def whole_unlike_lays(board):
+    """Every unlike lay of the board that has a point in each line, rising."""
+    wide, high = board
+    return [lay for lay in permutations(range(high), wide) if not like_tuples(lay)]
+
+
+def plain_fits(board, lay):
+    """Every whole lay that fits the lay, by trying all of its board."""
+    return [
+        whole for whole in whole_unlike_lays(board)
+        if all(row is None or row == also for row, also in zip(lay, whole))
+    ]
+
+
+def put(lay, line, row):
+    """The lay with a point more."""
+    return tuple(row if at == line else elder for at, elder in enumerate(lay))
+
+
+def plain_free(board, lay, line):
+    """The rows that are free for the line, by looking at all tuples of like steps."""
+    return [row for row in range(board[1]) if row not in lay and not like_tuples(put(lay, line, row))]
+
+
+class RefusalCase(unittest.TestCase):
+    def refused(self, error, told, *handed):
+        """What is handed in is refused with just this class."""
+        with self.assertRaises(error, msg=(told, handed)) as caught:
+            told(*handed)
+        self.assertIs(caught.exception.__class__, error)

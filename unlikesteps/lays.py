@@ -1,6 +1,6 @@
 """Boards, the lays of a board, and the points of a lay."""
 
-from unlikesteps.errors import NoBoard, NoLay, NoPoints
+from unlikesteps.errors import NoBoard, NoLay, NoNumber, NoPoints, TooMany
 
 LONGEST_SIDE = 12
 
@@ -14,6 +14,12 @@ def is_whole(thing):
 def is_whole_within(thing, least, most):
     """Tell whether the thing is a whole number from least to most."""
     return is_whole(thing) and least <= thing <= most
+
+
+def need_whole(number):
+    """Refuse what is no whole number."""
+    if not is_whole(number):
+        raise NoNumber("a whole number is an int that is no truth")
 
 
 def is_tuple_of(thing, many):
@@ -32,6 +38,12 @@ def need_board(board):
         raise NoBoard(f"a board is a tuple of two whole numbers from 1 to {LONGEST_SIDE}")
 
 
+def need_at_most(board, wide, high):
+    """Refuse a board that is wider or higher than told."""
+    if board[0] > wide or board[1] > high:
+        raise TooMany(f"the board may be at most {wide} wide and {high} high")
+
+
 def is_lay(board, thing):
     """Tell of anything whether it is a lay of the board."""
     need_board(board)
@@ -47,6 +59,11 @@ def need_lay(board, lay):
     """Refuse what is no board, then what is no lay of it."""
     if not is_lay(board, lay):
         raise NoLay("a lay has for each line a row of its board or None, and no row twice")
+
+
+def with_point(lay, line, row):
+    """Tell the lay with a point in this line and row, in the stead of the line's elder one."""
+    return lay[:line] + (row,) + lay[line + 1:]
 
 
 def is_full(board, thing):
