@@ -34,8 +34,12 @@ NO_NUMBERS = [
     None, True, False, "", "0", "1", (), (0,), [], [1], {}, {0: 1}, 0.0, 1.0, b"1", nest(40), object(), int, len,
 ]
 
+LONG_NUMBERS = [10 ** 39, 10 ** 40 - 1, 1234567890 * 10 ** 30 + 7]
+
 SMALL_BOARDS = list(product(range(1, 5), range(1, 5)))
 WIDE_LAY = ((5, 7), (6, None, 0, 3, None))
+# Unlike and full: in line k the rest, by 13, of 2 taken k times, less 1.
+POWERS = (0, 1, 3, 7, 2, 5, 11, 10, 8, 4, 9, 6)
 
 
 def all_lays(board):
@@ -47,6 +51,11 @@ def all_lays(board):
         if all(kept.count(row) == 1 for row in kept):
             found.append(rows)
     return found
+
+
+def none_least(lay):
+    """What lays compare by where None is less than a number."""
+    return [(row is not None, row) for row in lay]
 
 
 def pairs_of(lay):
@@ -81,6 +90,12 @@ def some_lays():
 
 
 @cache
+def unlike_lays(board):
+    """Every unlike lay of the board, rising."""
+    return sorted([lay for lay in all_lays(board) if not like_tuples(lay)], key=none_least)
+
+
+@cache
 def whole_unlike_lays(board):
     """Every unlike lay of the board that has a point in each line, rising."""
     wide, high = board
@@ -107,7 +122,19 @@ def plain_free(board, lay, line):
 
 class RefusalCase(unittest.TestCase):
     def refused(self, error, told, *handed):
-        """What is handed in is refused with just this class."""
+        """What is handed in is refused with just this class, and stays as it was."""
+        before = repr(handed)
         with self.assertRaises(error, msg=(told, handed)) as caught:
             told(*handed)
         self.assertIs(caught.exception.__class__, error)
+        self.assertEqual(repr(handed), before)
+
+    def told_anew(self, told, *handed):
+        """The list that is told is new: whatever is done to it, the same asked again has the same answer."""
+        first = told(*handed)
+        kept = list(first)
+        first.append("more")
+        first[0] = "other"
+        self.assertEqual(told(*handed), kept)
+        told(*handed).clear()
+        self.assertEqual(told(*handed), kept)

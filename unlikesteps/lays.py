@@ -22,6 +22,12 @@ def need_whole(number):
         raise NoNumber("a whole number is an int that is no truth")
 
 
+def need_whole_within(number, least, most):
+    """Refuse what is no whole number from least to most."""
+    if not is_whole_within(number, least, most):
+        raise NoNumber(f"a whole number from {least} to {most} is asked for")
+
+
 def is_tuple_of(thing, many):
     """Tell whether the thing is a tuple of so many things."""
     return isinstance(thing, tuple) and len(thing) == many

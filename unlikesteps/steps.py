@@ -1,5 +1,6 @@
 """The steps between the points of a lay, and which of them are alike."""
 
+from unlikesteps.errors import NoUnlike
 from unlikesteps.lays import points
 
 
@@ -33,6 +34,12 @@ def first_like(board, lay):
 def is_unlike(board, lay):
     """Tell whether no two steps of the lay are alike."""
     return first_like(board, lay) is None
+
+
+def need_unlike(board, lay):
+    """Refuse what is no board, no lay of it, or a lay with like steps."""
+    if not is_unlike(board, lay):
+        raise NoUnlike("two steps of the lay are alike")
 
 
 def ups(board, lay):
