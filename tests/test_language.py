@@ -23,6 +23,12 @@ NOT_LET = (
     ast.With, ast.Match, ast.Global, ast.Nonlocal, ast.Yield, ast.YieldFrom, ast.AsyncFunctionDef, ast.AsyncFor,
     ast.AsyncWith, ast.Await, ast.GeneratorExp, ast.NamedExpr, ast.Div, ast.Import, ast.MatMult,
 )
+METHODS = set(
+    "append clear copy count endswith extend find get index insert isalnum isalpha isdigit islower isspace isupper "
+    "items join keys ljust lower lstrip partition pop remove replace reverse rfind rjust rpartition rsplit rstrip "
+    "setdefault split splitlines startswith strip update upper values zfill bit_length removeprefix "
+    "removesuffix".split()
+)
 TOP = (ast.Expr, ast.ImportFrom, ast.FunctionDef, ast.ClassDef, ast.Assign)
 
 
@@ -126,6 +132,33 @@ class LanguageTest(unittest.TestCase):
                 self.assertFalse(isinstance(node.value, str) and "%" in node.value, (name, node.lineno))
             if isinstance(node, (ast.For, ast.While)):
                 self.assertEqual(node.orelse, [], (name, node.lineno))
+
+    def test_methods_and_values(self):
+        own = {node.name for name, node in self.each_node() if isinstance(node, ast.FunctionDef)}
+        for name, node in self.each_node():
+            if isinstance(node, ast.Attribute) and isinstance(node.ctx, ast.Store):
+                self.assertEqual(ast.unparse(node.value), "self", (name, node.lineno))
+                own.add(node.attr)
+        for name, node in self.each_node():
+            if isinstance(node, ast.Attribute):
+                self.assertIn(node.attr, METHODS | own, (name, node.lineno))
+
+    def test_sets_stand_within_sorted_and_len(self):
+        let = []
+        for name, node in self.each_node():
+            if isinstance(node, ast.Call) and ast.unparse(node.func) in ("sorted", "len") and not node.keywords:
+                let += [(name, thing.lineno, thing.col_offset) for thing in node.args]
+            self.assertNotIsInstance(node, ast.Set)
+        for name, node in self.each_node():
+            made = isinstance(node, ast.Call) and ast.unparse(node.func) in ("set", "frozenset")
+            if made or isinstance(node, ast.SetComp):
+                self.assertIn((name, node.lineno, node.col_offset), let)
+
+    def test_what_is_walked_is_not_kept(self):
+        for name, node in self.each_node():
+            if isinstance(node, (ast.Assign, ast.Return)) and isinstance(node.value, ast.Call):
+                told = ast.unparse(node.value.func).split(".")[-1]
+                self.assertNotIn(told, ("zip", "range", "enumerate", "reversed", "items", "keys", "values"), name)
 
     def test_functions(self):
         for name, node in self.each_node():

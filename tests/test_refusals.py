@@ -3,10 +3,13 @@
 import unittest
 from itertools import product
 
+from tests.test_interface import INTERFACE
 from tests.things import RefusalCase
-from unlikesteps import corners, fits, hits, lays, most, papers, powers, steps
+from unlikesteps import corners, fits, hits, lays, most, papers, powers, rounds, steps, texts, turns
+from unlikesteps.desk import Desk
 from unlikesteps.errors import (
-    NoBoard, NoLay, NoNumber, NoPaper, NoPoint, NoPoints, NoPrime, NoRoot, NoUnlike, TooFew, TooMany,
+    NoBoard, NoDeed, NoLay, NoLine, NoNumber, NoPaper, NoPoint, NoPoints, NoPrime, NoRoot, NoText, NoTurn, NoUnlike,
+    TooFew, TooMany,
 )
 
 LONG = 10 ** 39
@@ -16,14 +19,21 @@ LAYS = (NoLay, [(0, 1) * 8, (99,) * 3, (True, None, None), (0, 0, None), (None, 
 WHOLES = (NoNumber, [None, True, False, "1", 1.0, (1,), [], {}])
 NUMBERS = (NoNumber, WHOLES[1] + [-1, 13, LONG, -LONG])
 CORNERS = (NoNumber, WHOLES[1] + [-1, 4, LONG, -LONG])
+KINDS = (NoNumber, WHOLES[1] + [0, -1, 6, LONG, -LONG])
+ROUNDS = (NoNumber, WHOLES[1] + [-1, 3, LONG, -LONG])
 FROM_NOUGHT = (NoNumber, WHOLES[1] + [-1, -LONG])
 POINTS = (NoPoints, [[(0, 0), (0, 1)], [(True, 0)], [(0, False)], [(12, 12)], ((0, 0),), None, True, "a", {}])
 PAPERS = (NoPaper, [("shut", True), ("like", 0, 1, True, 2), ["shut", 1], ("shut", 99), (), None, True, "shut", LONG])
 PRIMES = (NoPrime, [0, 1, 4, 9, 14, 17, -2, True, False, None, "3", [3], (3,), 3.0, LONG])
 PRIMES_FROM_3 = (NoPrime, PRIMES[1] + [2])
 ROOTS = (NoRoot, [0, 1, 4, 6, 7, 8, 10, -4, True, False, None, "3", [3], (3,), 3.0, LONG])
+TURNS = (NoTurn, [[0, 0, 1], (0, 0), (0, 0, 0, 0), (True, 0, 0), (0, 2, 0), (0, 0, -1), (0, None, 0), None, True, "a"])
+FULLS = (NoLay, LAYS[1] + [(0, None, 1), (None, None, None)])
+TEXTS = (NoText, ["3x4: 2 . 2", "3x4: 2 . 04", "3x4: 2 .", "", None, True, 34, LONG, [], (), {}])
+LINES = (NoLine, ["put 00 0", "board 13 1", "back ", "", None, True, 34, LONG, [], (), {}])
 
 LAY = ((3, 4), (2, None, 0))
+FULL = ((3, 3), (0, 2, 1))
 LIKE = ((3, 4), (0, 1, 2))
 SHUT = ((3, 3), (0, 1, None))
 WIDE = ((12, 3), (0, 1) + (None,) * 10)
@@ -78,6 +88,25 @@ ASKED = [
     (corners.good_corners, WIDE_LIKE, (BOARDS, LAYS), NoUnlike),
     (corners.good_corners, WIDE, (BOARDS, LAYS), TooMany),
     (corners.good_corners, HIGH, (BOARDS, LAYS), TooMany),
+    (turns.turned_board, ((3, 4), (1, 0, 1)), (BOARDS, TURNS), None),
+    (turns.turned, LAY + ((1, 0, 1),), (BOARDS, LAYS, TURNS), None),
+    (turns.least_turned, LAY, (BOARDS, LAYS), None),
+    (turns.own_turns, LAY, (BOARDS, LAYS), None),
+    (turns.turns_together, ((1, 0, 1), (0, 1, 1)), (TURNS, TURNS), None),
+    (turns.kinds, (5,), (KINDS,), None),
+    (turns.kinds_many, (5,), (KINDS,), None),
+    (rounds.round_steps, FULL, (BOARDS, FULLS), None),
+    (rounds.round_steps, LAY, (BOARDS, FULLS), NoLay),
+    (rounds.is_round, FULL, (BOARDS, FULLS), None),
+    (rounds.is_round, LIKE, (BOARDS, FULLS), NoLay),
+    (rounds.led_round, FULL + (2,), (BOARDS, FULLS, ROUNDS), None),
+    (rounds.led_round, LIKE + (2,), (BOARDS, FULLS), NoLay),
+    (rounds.led_round, LIKE + (3,), (BOARDS, FULLS), NoLay),
+    (texts.lay_text, LAY, (BOARDS, LAYS), None),
+    (texts.read_lay, ("3x4: 2 . 0",), (TEXTS,), None),
+    (Desk().say, ("shown",), (LINES,), None),
+    (Desk().say, ("put 1 1",), (LINES,), NoNumber),
+    (Desk().say, ("back",), (LINES,), NoDeed),
 ]
 for told in (fits.all_fits, fits.fits_many, fits.first_fit, fits.rows_for, fits.sure):
     ASKED += [(told, LAY, (BOARDS, LAYS), None), (told, WIDE, (BOARDS, LAYS), TooMany)]
@@ -90,6 +119,12 @@ def choices_of(many, wrong):
 
 
 class FirstRefusalTest(RefusalCase):
+    def test_every_function_is_asked(self):
+        asked = {told.__name__ for told, *others in ASKED}
+        # Of anything it is told whether it is a board, so that is never refused; a desk is asked by its lines.
+        names = {top for tops in INTERFACE.values() for top in tops} - {"is_board", "Desk"} | {"say"}
+        self.assertEqual(asked, names)
+
     def test_one_wrong_thing_at_each_place(self):
         for told, handed, wrongs, last in ASKED:
             for at, (error, things) in enumerate(wrongs):

@@ -67,6 +67,16 @@ def need_lay(board, lay):
         raise NoLay("a lay has for each line a row of its board or None, and no row twice")
 
 
+def is_line(lay, thing):
+    """Tell whether the thing is a line of the lay's board."""
+    return is_whole_within(thing, 0, len(lay) - 1)
+
+
+def is_bare_line(lay, thing):
+    """Tell whether the thing is a line in which the lay has no point."""
+    return is_line(lay, thing) and lay[thing] is None
+
+
 def with_point(lay, line, row):
     """Tell the lay with a point in this line and row, in the stead of the line's elder one."""
     return lay[:line] + (row,) + lay[line + 1:]

@@ -2,23 +2,13 @@
 
 from unlikesteps.errors import NoPaper
 from unlikesteps.fits import free_rows, need_small
-from unlikesteps.lays import is_tuple_of, is_whole_within, need_lay, with_point
+from unlikesteps.lays import is_bare_line, is_line, is_tuple_of, need_lay, with_point
 from unlikesteps.steps import first_like
 
 
 def is_headed(thing, word, many):
     """Tell whether the thing is a tuple of so many things, the word the first of them."""
     return is_tuple_of(thing, many) and thing[0] == word
-
-
-def is_line(lay, thing):
-    """Tell whether the thing is a line of the lay's board."""
-    return is_whole_within(thing, 0, len(lay) - 1)
-
-
-def is_bare_line(lay, thing):
-    """Tell whether the thing is a line in which the lay has no point."""
-    return is_line(lay, thing) and lay[thing] is None
 
 
 def is_like_paper(lay, thing):
